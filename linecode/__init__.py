@@ -1,0 +1,1 @@
+"""Derivative programs made of line code."""

@@ -1,0 +1,1 @@
+"""Tests of linecode; the package itself lies beside this folder."""

@@ -2,20 +2,26 @@
 
 from linecode.backward import backward
 from linecode.forward import forward
-from linecode.linekinds import Program, told
+from linecode.linekinds import Program, operations, told
 from linecode.reading import check_choice, read_fractions, read_program
 from linecode.refusals import TooLarge
 from linecode.running import run
-from linecode.trimming import trimmed
+from linecode.texts import text_of
+from linecode.trimming import needed_lines, trimmed
 
 CODE = 0
 BACK = 1
 AHEAD = 2
 ADOPT = 3
 RUN = 4
+GRADIENT = 5
+CHANGE = 6
+OPS = 7
+TEXT = 8
+LINES = 9
 
 # How many whole numbers and how many lists each call is handed, by the call's number.
-SHAPES = ((1, 2), (1, 0), (1, 0), (2, 0), (0, 1), (0, 2))
+SHAPES = ((1, 2), (1, 0), (1, 0), (2, 0), (0, 1), (0, 2), (0, 2), (0, 0), (1, 0), (0, 0), (0, 0))
 
 MOST_ADOPTED_INPUTS = 24
 MOST_ADOPTED_LINES = 600
@@ -44,8 +50,18 @@ class Held:
             return self.adopt_derivative(numbers[0], numbers[1])
         if call == RUN:
             return self.run_held(rows[0])
-        # The only one left is gradient.
-        return self.run_gradient(rows[0], rows[1])
+        if call == GRADIENT:
+            return self.run_gradient(rows[0], rows[1])
+        if call == CHANGE:
+            return self.run_change(rows[0], rows[1])
+        if call == OPS:
+            return self.tell_ops()
+        if call == TEXT:
+            return self.tell_text(numbers[0])
+        if call == LINES:
+            return [self.program.inputs] + told(self.program)
+        # The only one left is needed.
+        return self.tell_needed()
 
     def take_code(self, inputs, lines, outs):
         """Holds the told program from now on."""
@@ -82,3 +98,31 @@ class Held:
         values = read_fractions(inputs, self.program.inputs)
         values.extend(read_fractions(weights, len(self.program.outs)))
         return run(trimmed(backward(self.program)), values)
+
+    def run_change(self, inputs, direction):
+        """Runs the trimmed forward program with the direction's parts behind the inputs."""
+        values = read_fractions(inputs, self.program.inputs)
+        values.extend(read_fractions(direction, self.program.inputs))
+        return run(trimmed(forward(self.program)), values)
+
+    def tell_ops(self):
+        """Tells how many operations the program and its derivative programs have."""
+        back = backward(self.program)
+        ahead = forward(self.program)
+        return [operations(made) for made in (self.program, back, trimmed(back), ahead, trimmed(ahead))]
+
+    def tell_text(self, which):
+        """Tells the bytes of the text of the program, or of a trimmed derivative program."""
+        check_choice(which, 2)
+        shown = self.program
+        if which == 1:
+            shown = trimmed(backward(shown))
+        elif which == 2:
+            shown = trimmed(forward(shown))
+        text = text_of(shown)
+        return [len(text)] + [ord(sign) for sign in text]
+
+    def tell_needed(self):
+        """Tells which lines are needed."""
+        found = needed_lines(self.program)
+        return [len(found)] + found

@@ -37,11 +37,19 @@ class Draft:
         return len(self.lines) - 1
 
 
+def is_operation(line):
+    """Whether a line is made of others: it's no input and no constant."""
+    return line[0] != INPUT and line[0] != CONSTANT
+
+
 def made_of(line):
     """The lines that a line is made of; none for an input or a constant."""
-    if line[0] == INPUT or line[0] == CONSTANT:
-        return ()
-    return line[1:]
+    return line[1:] if is_operation(line) else ()
+
+
+def operations(program):
+    """How many of its lines are operations."""
+    return len([line for line in program.lines if is_operation(line)])
 
 
 def told(program):

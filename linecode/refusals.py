@@ -31,7 +31,7 @@ class NotThere(Refusal):
 
 
 class TooLarge(Refusal):
-    """A program has more lines or inputs than it may have."""
+    """A program has more lines or inputs than it may have, or can't be told as text."""
 
     def __init__(self):
         Refusal.__init__(self, -7)

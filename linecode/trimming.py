@@ -16,6 +16,11 @@ def needed_ones(program):
     return needed
 
 
+def needed_lines(program):
+    """The numbers of the needed lines, in order."""
+    return [i for i, is_needed in enumerate(needed_ones(program)) if is_needed]
+
+
 def renamed(line, places):
     """The line, naming those that it's made of by their new numbers."""
     used = made_of(line)
@@ -28,9 +33,7 @@ def trimmed(program):
     """The program with its needed lines alone."""
     lines = []
     places = {}
-    needed = needed_ones(program)
-    for i, line in enumerate(program.lines):
-        if needed[i]:
-            places[i] = len(lines)
-            lines.append(renamed(line, places))
+    for i in needed_lines(program):
+        places[i] = len(lines)
+        lines.append(renamed(program.lines[i], places))
     return Program(program.inputs, lines, [places[out] for out in program.outs])

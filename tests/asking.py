@@ -10,6 +10,19 @@ def flat(lines):
     return [number for line in lines for number in line]
 
 
+def power_lines(exponent, base=(0, 0)):
+    """Lines that raise the base, an input or a constant, to the exponent; the last one is the power."""
+    lines = [base]
+    power = 0
+    for digit in bin(exponent)[3:]:
+        lines.append((4, power, power))
+        power = len(lines) - 1
+        if digit == "1":
+            lines.append((4, power, 0))
+            power = len(lines) - 1
+    return lines
+
+
 def code(n, lines, outs):
     """The call code; lines as tuples, or plain numbers where the form is to be wrong."""
     numbers = flat(lines) if lines and isinstance(lines[0], tuple) else list(lines)
@@ -34,6 +47,27 @@ def run(inputs):
 
 def gradient(inputs, weights):
     return [5, len(inputs)] + list(inputs) + [len(weights)] + list(weights)
+
+
+def change(inputs, direction):
+    return [6, len(inputs)] + list(inputs) + [len(direction)] + list(direction)
+
+
+def ops():
+    return [7]
+
+
+def text(which=0):
+    return [8, which]
+
+
+def held_lines():
+    """The call lines, under another name than that of what it tells."""
+    return [9]
+
+
+def needed():
+    return [10]
 
 
 def split(numbers):
@@ -78,3 +112,9 @@ def untold(answer):
     outs = answer[2 + answer[0]:]
     assert answer[1 + answer[0]] == len(outs), answer
     return lines, outs
+
+
+def shown(answer):
+    """The text whose bytes are answered."""
+    assert answer[0] == len(answer) - 1, answer
+    return bytes(answer[1:]).decode("ascii")

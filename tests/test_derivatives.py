@@ -1,14 +1,17 @@
-"""Promises 2 to 4: that what the made programs tell are the derivatives.
+"""Promises 2 to 4 and 6: that what the made programs tell, and their texts, are the derivatives.
 
 The values and derivatives that are asked for are reckoned here in another way: each
 line's value and its derivatives by all inputs, side by side.
 """
 
 import random
+import re
 import unittest
 from fractions import Fraction
 
-from tests.asking import adopt, ahead, ask, back, code, gradient, run, untold
+from tests.asking import (
+    adopt, ahead, ask, back, change, code, gradient, held_lines, needed, run, shown, text, untold,
+)
 
 
 def slopes_of(n, line, values, slopes):
@@ -99,9 +102,11 @@ class Derivatives(unittest.TestCase):
             expected = [outcome(by_inputs)] * 2 + [outcome(along)] * 2
             self.assertEqual(runs_of_made(n, lines, outs, asked), expected, (n, lines, outs))
             found = ask(code(n, lines, outs), run(numbers(inputs)),
-                        gradient(numbers(inputs), numbers(weights)))
+                        gradient(numbers(inputs), numbers(weights)),
+                        change(numbers(inputs), numbers(parts)))
             self.assertEqual(found[1], outcome([slopes[out][0] for out in outs]))
             self.assertEqual(found[2], outcome(by_inputs))
+            self.assertEqual(found[3], outcome(along))
 
     def test_trimmed_ones_keep_the_needed_lines_in_their_order(self):
         source = random.Random(7)
@@ -111,18 +116,73 @@ class Derivatives(unittest.TestCase):
                 whole, trimmed = ask(code(n, lines, outs), made(0), made(1))[1:]
                 self.assertEqual(untold(trimmed), self.trim(*untold(whole)))
 
-    def trim(self, lines, outs):
-        needed = set()
+    def test_needed_lines(self):
+        source = random.Random(8)
+        for turn in range(400):
+            n, lines, outs, inputs = random_case(source)
+            for adopted in ([], [adopt(0, 0)], [adopt(1, 0)]):
+                held, found = ask(code(n, lines, outs), *adopted, held_lines(), needed())[-2:]
+                order = self.order(*untold(held[1:]))
+                self.assertEqual(found, [len(order)] + order)
+
+    def order(self, lines, outs):
+        hung_on = set()
         ahead_of = list(outs)
         while ahead_of:
             line = ahead_of.pop()
-            if line not in needed:
-                needed.add(line)
+            if line not in hung_on:
+                hung_on.add(line)
                 ahead_of.extend(lines[line][1:] if lines[line][0] > 1 else [])
-        order = sorted(needed)
+        return sorted(hung_on)
+
+    def trim(self, lines, outs):
+        order = self.order(lines, outs)
         kept = [lines[i][:1] + tuple(order.index(j) for j in lines[i][1:]) if lines[i][0] > 1 else lines[i]
                 for i in order]
         return kept, [order.index(out) for out in outs]
+
+
+def read_text(words):
+    """The inputs' names, each let with its name and what it is, and the outs' names."""
+    parts = re.fullmatch(r"fn g\((.*?)\) = ((?:let t[0-9]+ = [^=]* in )*)\[([^\[\]]+)\];", words)
+    inputs, lets, outs = parts.groups()
+    lets = [tuple(part[4:].split(" = ")) for part in lets.split(" in ")[:-1]]
+    return inputs.split(", ") if inputs else [], lets, outs.split(", ")
+
+
+def told_by_text(words, inputs):
+    """The values of the text's outs, reckoned from its words alone."""
+    names, lets, outs = read_text(words)
+    assert len(names) == len(inputs), words
+    known = dict(zip(names, inputs))
+    # Each number is one of its own, so that dividing stays exact.
+    exact = r"\b([0-9]+)\b"
+
+    def worth(what):
+        return eval(re.sub(exact, r"Fraction(\1)", what), {"Fraction": Fraction}, known)
+
+    for name, what in lets:
+        assert name not in known, words
+        known[name] = worth(what)
+    return [worth(out) for out in outs]
+
+
+class Texts(unittest.TestCase):
+    def test_of_many_programs(self):
+        source = random.Random(20261120)
+        told = 0
+        for turn in range(400):
+            n, lines, outs, inputs = random_case(source)
+            weights = [Fraction(source.randrange(-5, 6), source.randrange(1, 4)) for out in outs]
+            parts = [Fraction(source.randrange(-5, 6), source.randrange(1, 4)) for k in range(n)]
+            found = ask(code(n, lines, outs), run(numbers(inputs)), gradient(numbers(inputs), numbers(weights)),
+                        change(numbers(inputs), numbers(parts)), text(0), text(1), text(2))
+            for place, given in ((1, inputs), (2, inputs + weights), (3, inputs + parts)):
+                if found[place + 3] != [-7]:
+                    told += 1
+                    words = shown(found[place + 3])
+                    self.assertEqual(outcome(told_by_text(words, given)), found[place], words)
+        self.assertGreater(told, 800)
 
 
 if __name__ == "__main__":

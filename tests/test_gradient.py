@@ -2,7 +2,7 @@
 
 import unittest
 
-from tests.asking import adopt, ask, back, code, gradient, last, run, untold
+from tests.asking import adopt, ask, back, code, gradient, last, power_lines, run, untold
 
 X, Y = (0, 0), (0, 1)
 BIG = 10 ** 18
@@ -76,14 +76,8 @@ class Faults(unittest.TestCase):
 
     def test_a_weight_of_4000_just_met_and_just_passed(self):
         # 2 ** 3997, made of a constant, times y: the derivative by y is that times the out's weight.
-        lines = [(1, 2, 1)]
-        power = 0
-        for digit in bin(3997)[3:]:
-            lines.append((4, power, power))
-            power = len(lines) - 1
-            if digit == "1":
-                lines.append((4, power, 0))
-                power = len(lines) - 1
+        lines = power_lines(3997, (1, 2, 1))
+        power = len(lines) - 1
         held = code(1, lines + [X, (4, power, power + 1)], [power + 2])
         kept, outs = untold(last(held, back(1)))
         self.assertEqual(kept, lines + [(0, 1), (4, power + 1, power)])

@@ -2,23 +2,10 @@
 
 import unittest
 
-from tests.asking import adopt, ask, code, last, run
+from tests.asking import adopt, ask, code, last, power_lines, run
 
 X, Y = (0, 0), (0, 1)
 BIG = 10 ** 18
-
-
-def power_lines(exponent):
-    """Lines that raise input 0 to the exponent; the last one is the power."""
-    lines = [X]
-    power = 0
-    for digit in bin(exponent)[3:]:
-        lines.append((4, power, power))
-        power = len(lines) - 1
-        if digit == "1":
-            lines.append((4, power, 0))
-            power = len(lines) - 1
-    return lines
 
 
 def power(exponent):
